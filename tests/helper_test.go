@@ -128,3 +128,97 @@ func sameList(t *testing.T, name string, got []impl.Point, want []impl.Point) {
 		t.Errorf("%s = %v, want %v", name, got, want)
 	}
 }
+
+// someLists returns lists with equal points, points on one line, ties and large coordinates.
+func someLists() [][]impl.Point {
+	lists := [][]impl.Point{
+		nil, {}, {xy(1, 2)}, {xy(1, 2), xy(1, 2)}, {xy(3, 3), xy(1, 1)}, {xy(0, 0), xy(4, 0), xy(0, 3)},
+		make([]impl.Point, impl.MaxPoints), manyPoints(impl.MaxPoints), grid(5, 4, xy(0, 0)),
+		{xy(-1000, -1000), xy(1000, -1000), xy(1000, 1000), xy(-1000, 1000)},
+	}
+	r := fixedRandom()
+	for range 300 {
+		lists = append(lists, randomList(r, 6), randomList(r, impl.MaxPoints), pointsOnLine(r))
+		lists = append(lists, largeList(r, 5), largeList(r, impl.MaxPoints))
+	}
+	return lists
+}
+
+// pointsOnLine returns up to MaxPoints points of a line, some of them equal.
+func pointsOnLine(r *rand.Rand) []impl.Point {
+	var list []impl.Point
+	from, step := randomPoint(r, 100), randomPoint(r, 3)
+	for range r.IntN(impl.MaxPoints + 1) {
+		n := r.IntN(25)
+		list = append(list, shift(from, xy(n*step.X, n*step.Y)))
+	}
+	return list
+}
+
+// largeList returns up to most points with large coordinates.
+func largeList(r *rand.Rand, most int) []impl.Point {
+	var list []impl.Point
+	for range r.IntN(most + 1) {
+		list = append(list, randomPoint(r, impl.MaxCoord))
+	}
+	return list
+}
+
+// badLists returns lists that are not valid: too many points, and points that are not valid.
+func badLists() [][]impl.Point {
+	lists := [][]impl.Point{manyPoints(impl.MaxPoints + 1), make([]impl.Point, impl.MaxPoints+1)}
+	for _, bad := range badPoints() {
+		lists = append(lists, []impl.Point{bad}, []impl.Point{xy(0, 0), xy(5, 0), bad}, []impl.Point{bad, xy(5, 0), xy(0, 5), xy(1, 1)})
+	}
+	return lists
+}
+
+// moved returns points moved by a vector.
+func moved(list []impl.Point, v impl.Point) []impl.Point {
+	var out []impl.Point
+	for _, p := range list {
+		out = append(out, shift(p, v))
+	}
+	return out
+}
+
+// reversed returns points in the opposite order.
+func reversed(list []impl.Point) []impl.Point {
+	out := slices.Clone(list)
+	slices.Reverse(out)
+	return out
+}
+
+// rotated returns points beginning with the one with the index first.
+func rotated(list []impl.Point, first int) []impl.Point {
+	return slices.Concat(list[first:], list[:first])
+}
+
+// smallest returns the index of the first point in order.
+func smallest(list []impl.Point) int {
+	best := 0
+	for i, p := range list {
+		if b := list[best]; p.X < b.X || p.X == b.X && p.Y < b.Y {
+			best = i
+		}
+	}
+	return best
+}
+
+// squareOf returns the squared distance of two points.
+func squareOf(a impl.Point, b impl.Point) int {
+	return (a.X-b.X)*(a.X-b.X) + (a.Y-b.Y)*(a.Y-b.Y)
+}
+
+// keepsArgument fails the test if a function changes its list, or if its result shares memory with it.
+func keepsArgument(t *testing.T, name string, list []impl.Point, f func([]impl.Point) []impl.Point) {
+	t.Helper()
+	array := append(slices.Clone(list), xy(7, 7), xy(8, 8))
+	before := slices.Clone(array)
+	got := f(array[:len(list)])
+	got = got[:cap(got)]
+	for i := range got {
+		got[i] = xy(-77, 77)
+	}
+	sameList(t, "the argument of "+name, array, before)
+}

@@ -348,6 +348,28 @@ func TestP19InvalidArguments(t *testing.T) {
 	}
 }
 
+func TestP132PointsOfASegmentDivideIt(t *testing.T) {
+	for _, s := range append(someSegments(), largeSegments()...) {
+		points := append(somePoints(), grid(6, 5, xy(-2, -2))...)
+		for i := range stepsOf(s) + 1 {
+			points = append(points, shift(s.A, xy((s.B.X-s.A.X)/stepsOf(s)*i, (s.B.Y-s.A.Y)/stepsOf(s)*i)))
+		}
+		length, count := impl.SquaredDistance(s.A, s.B), 0
+		for _, p := range points {
+			if !impl.OnSegment(s, p) {
+				continue
+			}
+			count++
+			if impl.SquaredDistance(s.A, p) > length || impl.SquaredDistance(s.B, p) > length {
+				t.Fatalf("%v is on %v, but farther from an end than the other end", p, s)
+			}
+		}
+		if count <= stepsOf(s) {
+			t.Fatalf("only %d points are on %v", count, s)
+		}
+	}
+}
+
 func TestP133SegmentsArePartsOfLines(t *testing.T) {
 	for _, s := range append(someSegments(), largeSegments()...) {
 		l, ok := impl.LineThrough(s.A, s.B)
