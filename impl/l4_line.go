@@ -79,6 +79,17 @@ func SideOf(l Line, p Point) int {
 	return cmp.Compare(l.A*p.X+l.B*p.Y, l.C)
 }
 
+// meet returns the common point of two lines that are not parallel. They may
+// have any sign or common divisor: the limits of A, B and C alone keep both
+// fractions within those of fractions.
+func (l Line) meet(m Line) RatPoint {
+	all := l.A*m.B - m.A*l.B
+	return RatPoint{
+		lowestTerms(l.C*m.B-m.C*l.B, all),
+		lowestTerms(l.A*m.C-m.A*l.C, all),
+	}
+}
+
 // MeetLines returns the common point of two lines.
 func MeetLines(l Line, m Line) (RatPoint, int) {
 	if !ValidLine(l) || !ValidLine(m) {
@@ -87,15 +98,10 @@ func MeetLines(l Line, m Line) (RatPoint, int) {
 	if l == m {
 		return RatPoint{}, SameLine
 	}
-	all := l.A*m.B - m.A*l.B
-	if all == 0 {
+	if l.A*m.B == m.A*l.B {
 		return RatPoint{}, Parallel
 	}
-	// The limits of lines keep both fractions within those of fractions.
-	return RatPoint{
-		lowestTerms(l.C*m.B-m.C*l.B, all),
-		lowestTerms(l.A*m.C-m.A*l.C, all),
-	}, OnePoint
+	return l.meet(m), OnePoint
 }
 
 // reachable reports whether a valid fraction is in -MaxReach..MaxReach.
@@ -103,15 +109,26 @@ func reachable(r Rat) bool {
 	return within(r.Num, MaxReach*r.Den)
 }
 
+// commonDen returns the least common multiple of both denominators.
+func (p RatPoint) commonDen() int {
+	return p.X.Den / gcd(p.X.Den, p.Y.Den) * p.Y.Den
+}
+
+// sideAt is SideOfRat for points within its limits. The line may have any sign
+// or common divisor.
+func (l Line) sideAt(p RatPoint) int {
+	common := p.commonDen()
+	x, y := common/p.X.Den*p.X.Num, common/p.Y.Den*p.Y.Num
+	return cmp.Compare(l.A*x+l.B*y, l.C*common)
+}
+
 // SideOfRat returns the side of a line on which a point with fractions is.
 func SideOfRat(l Line, p RatPoint) int {
 	if !ValidLine(l) || !ValidRat(p.X) || !ValidRat(p.Y) || !reachable(p.X) || !reachable(p.Y) {
 		return 2
 	}
-	common := p.X.Den / gcd(p.X.Den, p.Y.Den) * p.Y.Den
-	if common > MaxDen {
+	if p.commonDen() > MaxDen {
 		return 2
 	}
-	x, y := common/p.X.Den*p.X.Num, common/p.Y.Den*p.Y.Num
-	return cmp.Compare(l.A*x+l.B*y, l.C*common)
+	return l.sideAt(p)
 }
