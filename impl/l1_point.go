@@ -17,6 +17,11 @@ type Point struct {
 	Y int
 }
 
+// plus returns the sum of two vectors.
+func (p Point) plus(q Point) Point {
+	return Point{p.X + q.X, p.Y + q.Y}
+}
+
 // minus returns the vector from q to p.
 func (p Point) minus(q Point) Point {
 	return Point{p.X - q.X, p.Y - q.Y}

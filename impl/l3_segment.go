@@ -104,21 +104,33 @@ func MeetPoint(s Segment, t Segment) (RatPoint, bool) {
 	return RatPoint{}, false
 }
 
+// scale returns a factor that makes squared distances from a segment integers:
+// its squared length, or 1 if its ends are equal.
+func (s Segment) scale() int {
+	return max(SquaredDistance(s.A, s.B), 1)
+}
+
+// scaledSquare returns the squared distance of a point from a segment, whose
+// ends may be equal, times its scale.
+func (s Segment) scaledSquare(p Point) int {
+	along, toP := s.B.minus(s.A), p.minus(s.A)
+	length, shadow := along.dot(along), along.dot(toP)
+	if shadow <= 0 {
+		return SquaredDistance(s.A, p) * s.scale()
+	}
+	if shadow >= length {
+		return SquaredDistance(s.B, p) * s.scale()
+	}
+	// The nearest point is between the ends: the squared distance from the
+	// line is area*area/length.
+	area := along.cross(toP)
+	return area * area
+}
+
 // CompareToSegment compares the squared distance of a point from a segment with a number.
 func CompareToSegment(s Segment, p Point, n int) int {
 	if !ValidSegment(s) || !ValidPoint(p) || n < 0 || n > MaxSquare {
 		return 2
 	}
-	along, toP := s.B.minus(s.A), p.minus(s.A)
-	length, shadow := along.dot(along), along.dot(toP)
-	if shadow <= 0 {
-		return cmp.Compare(SquaredDistance(s.A, p), n)
-	}
-	if shadow >= length {
-		return cmp.Compare(SquaredDistance(s.B, p), n)
-	}
-	// The nearest point is between the ends: the squared distance from the
-	// line is area*area/length.
-	area := along.cross(toP)
-	return cmp.Compare(area*area, n*length)
+	return cmp.Compare(s.scaledSquare(p), n*s.scale())
 }
